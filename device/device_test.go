@@ -420,6 +420,58 @@ func TestFailFarAway(t *testing.T) {
 	}
 }
 
+func wantLeft(t *testing.T, d *device.Device, want int) {
+	t.Helper()
+	if got := d.Left(); got != want {
+		t.Errorf("Left: got %d, want %d", got, want)
+	}
+}
+
+// Left counts down what Fail said, by steps and by nothing else.
+func TestLeft(t *testing.T) {
+	for _, n := range []int{1 << 32, math.MaxInt - 1, math.MaxInt, 4} {
+		d := made(t, 2)
+		d.Fail(n)
+		wantLeft(t, d, n)
+		wantWrite(t, d, 1, body(1), api.OK)
+		wantLeft(t, d, n-1)
+		wantWrite(t, d, 1, body(2), api.OK)
+		wantFlush(t, d, api.OK)
+		wantWrite(t, d, 2, body(3), api.ErrRange)
+		wantWrite(t, d, 1, body(3)[:31], api.ErrShape)
+		wantRead(t, d, 1, body(2), api.OK)
+		wantLeft(t, d, n-3)
+		wantFlush(t, d, api.OK)
+		wantLeft(t, d, n-4)
+	}
+}
+
+func TestLeftWherePowerGoes(t *testing.T) {
+	d := made(t, 1)
+	d.Fail(1)
+	wantFlush(t, d, api.OK)
+	wantLeft(t, d, 0)
+	wantFlush(t, d, api.ErrLost)
+	wantWrite(t, d, 0, body(1), api.ErrLost)
+	wantLeft(t, d, 0)
+	d.Fail(7)
+	wantLeft(t, d, 7)
+	wantCrash(t, d, nil, -1, 0, 0)
+	wantLeft(t, d, -1)
+}
+
+func TestLeftWherePowerNeverGoes(t *testing.T) {
+	d := made(t, 1)
+	for _, n := range []int{-1, -2, -300, math.MinInt} {
+		wantLeft(t, d, -1)
+		d.Fail(n)
+		wantLeft(t, d, -1)
+		wantWrite(t, d, 0, body(1), api.OK)
+		wantFlush(t, d, api.OK)
+		wantLeft(t, d, -1)
+	}
+}
+
 func TestFailAnew(t *testing.T) {
 	for _, c := range []struct{ first, steps, second int }{{3, 1, 3}, {3, 3, 2}, {5, 2, 0}, {0, 0, 4}, {1, 1, 1}, {-1, 2, 1}} {
 		d := made(t, 2)

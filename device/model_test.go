@@ -32,9 +32,12 @@ func (m *model) goes() bool {
 	if m.till < 0 {
 		return false
 	}
-	m.isOn = m.till > 0
+	if m.till == 0 {
+		m.isOn = false
+		return true
+	}
 	m.till--
-	return !m.isOn
+	return false
 }
 
 func (m *model) pending() (l []int) {
@@ -132,7 +135,7 @@ func acts() []act {
 
 // sameAs tells whether all that can be asked of the device is as the model says.
 func sameAs(d *device.Device, m *model) bool {
-	if d.Len() != 3 || d.Down() == m.isOn || !slices.Equal(d.Pending(), m.pending()) {
+	if d.Len() != 3 || d.Down() == m.isOn || d.Left() != m.till || !slices.Equal(d.Pending(), m.pending()) {
 		return false
 	}
 	for i := range 3 {
